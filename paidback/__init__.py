@@ -1,0 +1,1 @@
+"""Paidback: bills shared by all who are in."""
