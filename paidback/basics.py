@@ -44,6 +44,12 @@ def shares(state):
     return {name: share(bills, len(folk), place) for place, name in enumerate(folk)}
 
 
+def paid_pairs(state):
+    """What each one who is in has paid, as pairs (name, cents), rising."""
+    cents_of = shares(state)
+    return sorted([(name, cents_of[name]) for name in cents_of])
+
+
 def can_bill(state, cents):
     """Whether a bill of so many cents can come."""
     bills, folk = state
@@ -101,3 +107,24 @@ def go_triples(state, name):
     """What is handed where one goes, rising."""
     too_little = extras(shares(parted(state, name)), shares(state))
     return sorted([(other, name, extra) for other, extra in too_little])
+
+
+def add_triples(sums, triples):
+    """Add what was handed to the sums, a dict from pairs (from, to) to cents."""
+    for giver, taker, cents in triples:
+        way = (giver, taker)
+        sums[way] = sums.get(way, 0) + cents
+
+
+def take_triples(sums, triples):
+    """Take what was added out of the sums again; no sum of 0 stays, so that equal sums are equal dicts."""
+    for giver, taker, cents in triples:
+        way = (giver, taker)
+        sums[way] -= cents
+        if sums[way] == 0:
+            del sums[way]
+
+
+def sum_triples(sums):
+    """The sums as triples (from, to, cents), rising."""
+    return sorted([(giver, taker, sums[(giver, taker)]) for giver, taker in sums])

@@ -1,7 +1,7 @@
 """Who has paid what in a state, and what is handed where a bill comes or somebody comes or goes."""
 
 from paidback.basics import MOST_FOLK, bill_triples, can_bill, can_come, can_go, come_triples, go_triples
-from paidback.basics import is_cents, is_name, is_pair, shares
+from paidback.basics import is_cents, is_name, is_pair, paid_pairs
 from paidback.errors import NoCents, NoName, NoState
 
 
@@ -32,7 +32,7 @@ def check_state(state):
 def paid(state):
     """What each one who is in has paid: a rising list of pairs (name, cents)."""
     check_state(state)
-    return sorted(shares(state).items())
+    return paid_pairs(state)
 
 
 def bill_handed(state, cents):

@@ -1,7 +1,7 @@
 """Rows of deeds: the state behind them, what was handed by them, and rows done again and again."""
 
-from paidback.basics import MOST_CENTS, bill_triples, billed, can_bill, can_come, can_go, come_triples, go_triples
-from paidback.basics import is_cents, is_name, is_pair, is_whole_within, joined, parted
+from paidback.basics import MOST_CENTS, add_triples, bill_triples, billed, can_bill, can_come, can_go, come_triples
+from paidback.basics import go_triples, is_cents, is_name, is_pair, is_whole_within, joined, parted, sum_triples
 from paidback.clubs import check_state
 from paidback.errors import NoDeeds, NoTimes
 
@@ -62,9 +62,8 @@ def walk(state, deeds):
 def summed(triples):
     """One triple for each two and way, with all their cents, rising."""
     sums = {}
-    for giver, taker, cents in triples:
-        sums[(giver, taker)] = sums.get((giver, taker), 0) + cents
-    return sorted([(giver, taker, sums[(giver, taker)]) for giver, taker in sums])
+    add_triples(sums, triples)
+    return sum_triples(sums)
 
 
 def behind(state, deeds):

@@ -121,3 +121,41 @@ def random_row(chance, state, many, most_bill):
 
 def chance_of(seed):
     return random.Random(seed)
+
+
+# Wrong of any number that must be at least 1, whatever the most of it is.
+WRONG_MANY = NEVER + [0, "a", "1", [], [1], (1, 1), (0, ("a",)), 10 ** 6 + 1, MOST]
+
+WRONG_PLACES = NEVER + ["a", "0", [], [0], (0,), (0, ("a",)), 40, 10 ** 6]
+
+RIGHT_SIGHT = (3, 1, 5)
+
+WRONG_SIGHTS = [thing for thing in NEVER if thing != ()] + [
+    (), 0, 1, 5, "abc", [], [3, 1, 5], (3, 1), (3,), (3, 1, 5, 0), (3, (1, 5)), ((3, 1, 5),), [(3, 1, 5)],
+    (0, 0, 5), (-1, 0, 5), (41, 0, 5), (10 ** 39, 0, 5), (True, 0, 5), (None, 0, 5), ("3", 1, 5), ([3], 1, 5),
+    ((3,), 1, 5), (nested_list(8), 0, 0), (3, -1, 5), (3, 3, 5), (1, 1, 5), (40, 40, 5), (3, 10 ** 39, 5), (3, True, 5),
+    (3, False, 5), (3, None, 5), (3, "1", 5), (3, [1], 5), (3, (1,), 5), (3, nested_tuple(8), 0), (3, 1, -1),
+    (3, 1, MOST + 1), (3, 1, 10 ** 40 - 1), (3, 1, True), (3, 1, False), (3, 1, None), (3, 1, "5"), (3, 1, [5]),
+    (3, 1, (5,)), (3, 1, nested_list(8)), (True, True, True), (1, False, 5), (None, None, None), ([], [], []),
+]
+
+WRONG_SEEN = NEVER + [
+    (), [], 0, 1, 5, "abc", RIGHT_SIGHT, [RIGHT_SIGHT], [RIGHT_SIGHT, RIGHT_SIGHT], ([RIGHT_SIGHT],), ((RIGHT_SIGHT,),),
+    (RIGHT_SIGHT,) * 11, (RIGHT_SIGHT,) * 100, (RIGHT_SIGHT,) * 9 + (None,), ((0, 0, 0),) + (RIGHT_SIGHT,) * 9,
+    "(3, 1, 5)",
+] + [(thing,) for thing in WRONG_SIGHTS] + [(RIGHT_SIGHT, thing) for thing in WRONG_SIGHTS]
+
+WRONG_PARTS = [thing for thing in NEVER if thing not in ((), ("bill", 1))] + [
+    (), 0, 1, "b", "bb", [], ["b", 1], ("b",), ("b", 1, 1), (1, "b"), (("b", 1),), [("b", 1)], ("b", (1,)), ("b", [1]),
+    ("", 1), ("B", 1), ("bbbbbbbbb", 1), ("b b", 1), ("b1", 1), (None, 1), (True, 1), (2, 1), (["b"], 1), (("b",), 1),
+    ("b", -1), ("b", MOST + 1), ("b", 10 ** 40 - 1), ("b", True), ("b", False), ("b", None), ("b", "1"), ("b", "b"),
+    (nested_list(8), 1), ("b", nested_tuple(8)), ([], []), (None, None),
+]
+
+WRONG_KNOWN = NEVER + [
+    (), [], 0, 1, "ab", ("a", 1), ["a", 1], [("a", 1)], [("a", 1), ("b", 1)], (("a", 1), ["b", 1]), ((("a", 1),),),
+    (("a", 1), ("a", 1)), (("a", 1), ("a", 2)), (("a", 2), ("a", 1)), (("b", 1), ("a", 1)), (("b", 1), ("a", 2)),
+    (("a", 1), ("c", 1), ("b", 1)), (("b", 1), ("a", 1), ("c", 1)), (("a", 1), ("b", 1), ("b", 1)),
+    (("a", 1), ("b", 1), ("a", 1)), (("aa", 1), ("a", 1)), (("z", 1), ("abc", 1)),
+    tuple((letter, 1) for letter in LETTERS[:9]), tuple((letter, 0) for letter in LETTERS),
+] + [(thing,) for thing in WRONG_PARTS] + [(("a", 1), thing) for thing in WRONG_PARTS]

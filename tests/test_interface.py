@@ -7,7 +7,7 @@ import pathlib
 import re
 import unittest
 
-from paidback import clubs, deeds
+from paidback import back, clubs, deeds, enough, kept
 
 PACKAGE = pathlib.Path(__file__).resolve().parent.parent / "paidback"
 FILES = sorted(PACKAGE.glob("*.py"))
@@ -17,6 +17,12 @@ LISTED = {
         "come_handed": ["state", "name"], "go_handed": ["state", "name"],
     },
     deeds: {"behind": ["state", "deeds"], "handed": ["state", "deeds"], "again": ["state", "deeds", "times"]},
+    enough: {"least_many": ["bills", "cents"], "through_hands": ["bills", "many"], "must_hand": ["bills", "many"]},
+    back: {"bills_of": ["seen"], "bills_handing": ["many", "place", "cents"], "orders": ["bills", "known"]},
+}
+METHODS = {
+    "bill": ["self", "cents"], "come": ["self", "name"], "go": ["self", "name"], "back": ["self"], "state": ["self"],
+    "paid": ["self"], "handed": ["self"], "__len__": ["self"], "__eq__": ["self", "other"],
 }
 BUILTINS = set(
     "len range enumerate zip min max sum abs sorted reversed int str bool bytes list tuple dict set frozenset "
@@ -40,6 +46,14 @@ class Interface(unittest.TestCase):
                     function = getattr(module, name)
                     self.assertEqual(function.__module__, module.__name__)
                     self.assertEqual(list(inspect.signature(function).parameters), arguments)
+
+    def test_the_methods_of_a_club_stand_in_it(self):
+        self.assertEqual(kept.Club.__module__, "paidback.kept")
+        self.assertEqual(list(inspect.signature(kept.Club).parameters), [])
+        for name, arguments in METHODS.items():
+            with self.subTest(name):
+                self.assertIn(name, vars(kept.Club))
+                self.assertEqual(list(inspect.signature(vars(kept.Club)[name]).parameters), arguments)
 
 
 class Language(unittest.TestCase):
@@ -74,7 +88,8 @@ class Language(unittest.TestCase):
                     self.assertRegex(text, rf"(?m)^(def |class )?{alias.name}\b", alias.name)
 
     def test_no_barred_kinds_of_code(self):
-        barred = (ast.Global, ast.AsyncFunctionDef, ast.Await, ast.Div)
+        # A class of the package has an equality of its own: so there is no generator expression either.
+        barred = (ast.Global, ast.AsyncFunctionDef, ast.Await, ast.Div, ast.GeneratorExp)
         for path in FILES:
             self.assertEqual(nodes_of(path, *barred), [], path.name)
             for node in nodes_of(path, ast.Constant):
