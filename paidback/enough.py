@@ -26,15 +26,39 @@ def least_many(bills, cents):
     return (bills + cents - 1) // cents
 
 
+def root_below(number):
+    """The greatest number whose square is not above this one."""
+    root = number
+    # Each step comes down, but never below the root that is sought.
+    while root * root > number:
+        root = (root + number // root) // 2
+    return root
+
+
+def sum_divided(bills, first, last):
+    """Bills divided by each number from the first to the last, each time rounded down, in all."""
+    total = 0
+    for number in range(first, last + 1):
+        total += bills // number
+    return total
+
+
 def through_hands(bills, many):
     """How much is handed in all where so many come, one by one, to the one who was there alone."""
     check_bills(bills)
     check_many(many, MOST_COMING)
-    total = 0
-    # Who comes hands all they have then paid, and that is nothing once there are more folk than cents.
-    for among in range(2, min(many + 1, bills) + 1):
-        total += bills // among
-    return total
+    # Who comes hands all they have then paid: the bills divided by how many are then in, rounded down.
+    last = many + 1
+    root = root_below(bills)
+    if last <= root:
+        return sum_divided(bills, 2, last)
+    # Beyond the root many hand the same few cents, so it is quicker to ask, cent by cent, who hands it: the
+    # k-th cent is handed by those up to bills // k, and by all up to the last one for the cents that the
+    # last one hands, too. Those up to the root are taken out again, as they are counted one by one.
+    cents_of_first = bills // (root + 1)
+    cents_of_last = bills // last
+    reached = cents_of_last * last + sum_divided(bills, cents_of_last + 1, cents_of_first)
+    return sum_divided(bills, 2, root) + reached - cents_of_first * root
 
 
 def must_hand(bills, many):

@@ -2,6 +2,7 @@
 
 import copy
 import itertools
+import time
 import unittest
 
 from paidback.clubs import come_handed, paid
@@ -15,6 +16,17 @@ def alike(bills, many):
     low, more = divmod(bills, many)
     for chosen in itertools.combinations(range(many), more):
         yield [low + (at in chosen) for at in range(many)]
+
+
+def coming_by_coming(bills, most):
+    """What is handed in all where 1, 2 and so on up to the most come: a plain sum, as point 5 has what one has paid."""
+    total = 0
+    sums = {}
+    for many in range(1, most + 1):
+        # The newest of many + 1 is at the place many, and hands all they have then paid.
+        total += -((many - bills) // (many + 1)) if bills >= many else 0
+        sums[many] = total
+    return sums
 
 
 class LeastMany(unittest.TestCase):
@@ -111,6 +123,71 @@ class ThroughHands(unittest.TestCase):
         for bills, many in [(MOST + 1, 1), (-1, 1), (MOST + 1, 0), (-1, 10 ** 6 + 1)]:
             with self.subTest((bills, many)), self.assertRaises(NoCents):
                 through_hands(bills, many)
+
+    def test_edges_of_bills_and_many(self):
+        self.assertEqual(through_hands(10 ** 6, 10 ** 6), 12970034)
+        self.assertEqual(through_hands(MOST, 10 ** 6), 13392727722864223719)
+        self.assertEqual(through_hands(0, 10 ** 6), 0)
+        self.assertEqual(through_hands(10, 3), 10)
+        self.assertEqual(through_hands(0, 1), 0)
+        self.assertEqual(through_hands(1, 10 ** 6), 0)
+        self.assertEqual(through_hands(10 ** 6, 1), 500000)
+        for bills in (0, 1, 10 ** 6, MOST):
+            self.assertRaises(NoMany, through_hands, bills, 10 ** 6 + 1)
+
+
+class ThroughHandsByAPlainSum(unittest.TestCase):
+    def hold(self, bills, chosen):
+        """Hold the answers for the chosen many, in no order, against the plain sum."""
+        chosen = [many for many in chosen if 1 <= many <= 10 ** 6]
+        sums = coming_by_coming(bills, max(chosen))
+        for many in chosen:
+            self.assertEqual(through_hands(bills, many), sums[many], (bills, many))
+
+    def test_all_bills_and_many_up_to_some_hundreds(self):
+        for bills in range(0, 321):
+            self.hold(bills, range(1, 331))
+
+    def test_bills_about_a_product_of_two_near_numbers(self):
+        for one in list(range(18, 40)) + [99, 100, 316, 317, 999, 1000, 1001]:
+            for other in (one, one + 1, one + 2):
+                near = [side + off for side in (one, other) for off in range(-3, 4)]
+                for bills in (one * other - 1, one * other, one * other + 1):
+                    self.hold(bills, near + [1, one // 2, 2 * one, 3 * other])
+
+    def test_bills_about_themselves(self):
+        for bills in (399, 400, 401, 9999, 10100, 65535, 65536, 99856):
+            self.hold(bills, [bills // 3, bills // 2 - 1, bills // 2, bills - 2, bills - 1, bills, bills + 1, 2 * bills])
+
+    def test_great_products_of_two_near_numbers(self):
+        for one, other in [(31622, 31623), (99999, 100001), (10 ** 5, 10 ** 5)]:
+            for bills in (one * other - 1, one * other, one * other + 1):
+                self.hold(bills, [one - 2, one - 1, one, other, other + 1, 2 * one])
+
+    def test_as_many_as_can_come_to_about_their_square(self):
+        for bills in (10 ** 12 - 1, 10 ** 12, (10 ** 6 + 1) ** 2 - 1, (10 ** 6 + 1) ** 2):
+            self.hold(bills, [10 ** 6 - 1, 10 ** 6])
+
+    def test_great_bills_and_many_up_to_some_thousands(self):
+        for bills in (10 ** 7, 3163 ** 2 - 1, 10 ** 9 + 7, 10 ** 12 - 1, 10 ** 15, MOST - 1, MOST):
+            self.hold(bills, list(range(1, 5001, 61)) + list(range(3155, 3170)) + [4999, 5000])
+
+    def test_by_chance(self):
+        chance = chance_of(88)
+        for _ in range(60):
+            bills = chance.randint(0, 10 ** chance.randint(1, 18))
+            self.hold(bills, [chance.randint(1, 10 ** chance.randint(1, 4)) for _ in range(20)])
+
+
+class ThroughHandsPace(unittest.TestCase):
+    def test_a_million_come_to_a_million_within_some_milliseconds(self):
+        # The shortest of several times, so that other work on the machine does not count.
+        times = []
+        for _ in range(5):
+            start = time.process_time()
+            through_hands(10 ** 6, 10 ** 6)
+            times.append(time.process_time() - start)
+        self.assertLess(min(times), 0.005)
 
 
 class MustHand(unittest.TestCase):
